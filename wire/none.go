@@ -1,0 +1,19 @@
+package wire
+
+// None tells that bytes are none of what was looked for, and why.
+type None struct {
+	Why string
+}
+
+func (n *None) Error() string { return n.Why }
+
+// Within tells in which part of what was read the cause of an error lies.
+type Within struct {
+	Part  string
+	Cause error
+}
+
+func (w *Within) Error() string { return w.Part + ": " + w.Cause.Error() }
+
+// Unwrap hands the cause to errors.As, so that a None is found however deep it lies.
+func (w *Within) Unwrap() error { return w.Cause }
