@@ -3,10 +3,10 @@ package cistern
 
 import (
 	"cmp"
-	"errors"
 
 	"cistern/api"
 	"cistern/bounds"
+	"cistern/conn"
 	"cistern/wire"
 )
 
@@ -21,8 +21,7 @@ func PutNumber(n int) ([]byte, api.Errno) {
 // GetNumber reads a number at the front, and tells how many bytes it has (P3).
 func GetNumber(b []byte) (int, int, api.Errno) {
 	n, size, err := wire.ReadNumber(b)
-	var none *wire.None
-	if errors.As(err, &none) {
+	if wire.IsNone(err) {
 		return 0, 0, api.ErrArg
 	}
 	return n, size, api.OK
@@ -46,19 +45,56 @@ func Proof(c api.Config, address int, cid int) (int, api.Errno) {
 }
 
 // Server has connections.
-type Server struct{}
+type Server struct {
+	config  api.Config
+	clock   int
+	conns   map[int]*conn.Conn // by their cids
+	waiting []*conn.Conn       // to be accepted, in this order; all of them are in conns
+}
 
 // New makes a server (P4).
-func New(c api.Config) (*Server, api.Errno) { return nil, api.OK }
+func New(c api.Config) (*Server, api.Errno) {
+	if e := bounds.Config(c); e != api.OK {
+		return nil, e
+	}
+	return &Server{config: c, conns: map[int]*conn.Conn{}}, api.OK
+}
 
 // Receive deals with a datagram, and tells what is sent (P4).
-func (s *Server) Receive(address int, b []byte) []api.Sent { return nil }
+func (s *Server) Receive(address int, b []byte) []api.Sent {
+	d, err := wire.ReadDatagram(b)
+	if wire.IsNone(err) || bounds.Address(address) != api.OK {
+		return nil
+	}
+	if d.Kind == api.Hello {
+		return s.hello(address, d)
+	}
+	return s.data(address, d)
+}
 
 // Clock tells the time (P4).
-func (s *Server) Clock(now int) api.Errno { return api.OK }
+func (s *Server) Clock(now int) api.Errno {
+	if now < s.clock || now > api.MaxClock {
+		return api.ErrArg
+	}
+	s.clock = now
+	for _, c := range s.conns {
+		if c.Idle(now) {
+			s.drop(c)
+		}
+	}
+	return api.OK
+}
 
 // Accept tells the next connection that waits (P5).
-func (s *Server) Accept() (int, api.Errno) { return 0, api.OK }
+func (s *Server) Accept() (int, api.Errno) {
+	if len(s.waiting) == 0 {
+		return 0, api.ErrWait
+	}
+	first := s.waiting[0]
+	s.waitNoMore(first)
+	return first.Cid(), api.OK
+}
 
 // Read reads from a stream, and tells what is sent (P6).
 func (s *Server) Read(cid int, stream int, most int) (api.Got, []api.Sent, api.Errno) {
@@ -69,7 +105,13 @@ func (s *Server) Read(cid int, stream int, most int) (api.Got, []api.Sent, api.E
 func (s *Server) Close(cid int, code int) ([]api.Sent, api.Errno) { return nil, api.OK }
 
 // Look tells how a connection stands (P5).
-func (s *Server) Look(cid int) (api.Look, api.Errno) { return api.Look{}, api.OK }
+func (s *Server) Look(cid int) (api.Look, api.Errno) {
+	c := s.conns[cid]
+	if c == nil {
+		return api.Look{}, api.ErrNone
+	}
+	return c.Look(), api.OK
+}
 
 // Memory tells what all connections cost (P4).
-func (s *Server) Memory() int { return 0 }
+func (s *Server) Memory() int { return len(s.conns) * s.cost() }

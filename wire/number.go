@@ -1,4 +1,4 @@
-// Package wire: how numbers, tokens and proofs are written as bytes, and read.
+// Package wire: how numbers, tokens, proofs, datagrams and frames are written as bytes, and read.
 package wire
 
 import "strconv"
@@ -52,7 +52,7 @@ func numberSize(b []byte) (int, error) {
 		return 0, &None{Why: "first byte " + strconv.Itoa(int(b[0]))}
 	}
 	if len(b) < size {
-		return 0, &None{Why: strconv.Itoa(len(b)) + " of " + strconv.Itoa(size) + " bytes"}
+		return 0, tooFew(len(b), size)
 	}
 	return size, nil
 }

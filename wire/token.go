@@ -1,6 +1,10 @@
 package wire
 
-import "cistern/api"
+import (
+	"bytes"
+
+	"cistern/api"
+)
 
 // 32-bit FNV-1a.
 const (
@@ -10,6 +14,9 @@ const (
 
 // proofMark stands ahead of a proof's address, so that what is summed for a proof is longer than for any token.
 const proofMark = 255
+
+// tokenSize: the address, FOUR of the time, FOUR of the sum.
+const tokenSize = 9
 
 // Sum is the SUM of bytes.
 func Sum(b []byte) uint32 {
@@ -38,4 +45,18 @@ func Proof(key int, address int, cid int) int {
 // appendFour writes FOUR bytes of n behind b.
 func appendFour(b []byte, n uint32) []byte {
 	return append(b, byte(n), byte(n>>8), byte(n>>16), byte(n>>24))
+}
+
+// TokenHolds tells whether b is a token for an address, of a time that is not below now.
+func TokenHolds(key int, address int, now int, b []byte) bool {
+	if len(b) != tokenSize {
+		return false
+	}
+	time := int(readFour(b[1:]))
+	return time >= now && bytes.Equal(b, Token(key, address, time))
+}
+
+// readFour reads FOUR bytes at the front of b.
+func readFour(b []byte) uint32 {
+	return uint32(b[0]) | uint32(b[1])<<8 | uint32(b[2])<<16 | uint32(b[3])<<24
 }
