@@ -142,7 +142,7 @@ func TestP4RunsThatJoin(t *testing.T) {
 	f.packet(11, true)
 }
 
-// Many numbers, against a set of them.
+// However many numbers come, those of one run stay one run.
 func TestP4ManyNumbersInOrder(t *testing.T) {
 	f := newFlow(t)
 	for number := range 500 {

@@ -201,19 +201,13 @@ func TestP4TokenOfARetry(t *testing.T) {
 
 // Row 3: as many as Load are borne that are not proven; those that are do not count.
 func TestP4Load(t *testing.T) {
-	for _, load := range []int{0, 1, 2, 8} {
+	for _, load := range []int{0, 1, 2, 6} {
 		c := config()
 		c.Load, c.Conns, c.Memory = load, 8, 100000
 		s := start(t, c)
-		if load < 8 {
-			s.opens(9, 63)
-		}
+		s.opens(9, 63)
 		for cid := range load {
 			s.opensUnproven(1, cid)
-		}
-		if load == 8 {
-			s.receives(1, hello(50, nil, pads(20)), retry(c, 1, 50, 5))
-			continue
 		}
 		s.receives(1, hello(50, nil, pads(20)), retry(c, 1, 50, 5))
 		s.absent(50)
@@ -229,6 +223,17 @@ func TestP4Load(t *testing.T) {
 		s.receives(1, data(50, 0, shut(0)))
 		s.opensUnproven(1, 51)
 	}
+}
+
+// As many as there may be at all, and none of them proven.
+func TestP4GreatestLoad(t *testing.T) {
+	c := config()
+	c.Load, c.Conns, c.Memory = 8, 8, 100000
+	s := start(t, c)
+	for cid := range 8 {
+		s.opensUnproven(1, cid)
+	}
+	s.receives(1, hello(50, nil, pads(20)), retry(c, 1, 50, 5))
 }
 
 // A retry has 11 bytes and the cid's: the datagram must have a third of that.
