@@ -98,11 +98,29 @@ func (s *Server) Accept() (int, api.Errno) {
 
 // Read reads from a stream, and tells what is sent (P6).
 func (s *Server) Read(cid int, stream int, most int) (api.Got, []api.Sent, api.Errno) {
-	return api.Got{}, nil, api.OK
+	c := s.conns[cid]
+	if c == nil || !c.Proven() {
+		return api.Got{}, nil, api.ErrNone
+	}
+	if !c.Has(stream) || most < 0 {
+		return api.Got{}, nil, api.ErrArg
+	}
+	got, sent := c.Read(stream, most)
+	return got, sent, api.OK
 }
 
 // Close ends a connection, and tells what is sent (P7).
-func (s *Server) Close(cid int, code int) ([]api.Sent, api.Errno) { return nil, api.OK }
+func (s *Server) Close(cid int, code int) ([]api.Sent, api.Errno) {
+	c := s.conns[cid]
+	if c == nil {
+		return nil, api.ErrNone
+	}
+	if e := bounds.Number(code); e != api.OK {
+		return nil, e
+	}
+	s.drop(c)
+	return c.Closed(code), api.OK
+}
 
 // Look tells how a connection stands (P5).
 func (s *Server) Look(cid int) (api.Look, api.Errno) {

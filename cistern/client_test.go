@@ -63,6 +63,22 @@ func welcome(c api.Config, address, cid int) api.Sent {
 	return news(address, cid, numberFrame(20, proofOf(c, address, cid), c.Window, c.Piece, c.Streams))
 }
 
+func pieceNews(address, cid, id, credit int) api.Sent {
+	return news(address, cid, numberFrame(17, id, credit))
+}
+
+func dataNews(address, cid, credit int) api.Sent { return news(address, cid, numberFrame(16, credit)) }
+
+func streamsNews(address, cid, limit int) api.Sent {
+	return news(address, cid, numberFrame(18, limit))
+}
+
+// What is read of a stream.
+
+func text(s string) api.Got  { return api.Got{Bytes: []byte(s)} }
+func ended(s string) api.Got { return api.Got{Bytes: []byte(s), End: true} }
+func gaveUp() api.Got        { return api.Got{Reset: true} }
+
 // server is a server under test.
 type server struct {
 	*cistern.Server
@@ -98,9 +114,7 @@ func lend[R any](t *testing.T, b []byte, call func(lent []byte) R) R {
 	if !bytes.Equal(room, before) {
 		t.Fatalf("what was lent, %x, was made %x", before, room)
 	}
-	for i := range room {
-		room[i] ^= 255
-	}
+	spoil(room)
 	return answer
 }
 
@@ -112,13 +126,18 @@ func sameSent(a, b []api.Sent) bool {
 	return same
 }
 
+// spoil writes into a list and its spare room.
+func spoil(b []byte) {
+	b = b[:cap(b)]
+	for i := range b {
+		b[i] ^= 255
+	}
+}
+
 func spoilSent(l []api.Sent) {
 	l = l[:cap(l)]
 	for i := range l {
-		b := l[i].Bytes[:cap(l[i].Bytes)]
-		for k := range b {
-			b[k] ^= 255
-		}
+		spoil(l[i].Bytes)
 		l[i] = api.Sent{To: -1}
 	}
 }
@@ -194,4 +213,52 @@ func (s server) opens(address, cid int) {
 func (s server) opensUnproven(address, cid int) {
 	s.t.Helper()
 	s.receives(address, hello(cid, nil, pads(20)), welcome(s.c, address, cid))
+}
+
+// reads reads from a stream, and looks at what is sent. What came out is spoiled behind the call (P2).
+func (s server) reads(cid, id, most int, want api.Got, news ...api.Sent) {
+	s.t.Helper()
+	got, sent, e := s.Read(cid, id, most)
+	if !bytes.Equal(got.Bytes, want.Bytes) || got.End != want.End || got.Reset != want.Reset || e != api.OK {
+		s.t.Fatalf("Read(%d, %d, %d) = %+v, %d, want %+v", cid, id, most, got, e, want)
+	}
+	if !sameSent(sent, news) {
+		s.t.Fatalf("Read(%d, %d, %d) sent %x, want %x", cid, id, most, sent, news)
+	}
+	spoil(got.Bytes)
+	spoilSent(sent)
+}
+
+// refusesRead sees to P1, too: beside the error there is nothing, and nothing changes.
+func (s server) refusesRead(cid, id, most int, want api.Errno) {
+	s.t.Helper()
+	before, _ := s.Look(cid)
+	got, sent, e := s.Read(cid, id, most)
+	if len(got.Bytes) != 0 || got.End || got.Reset || len(sent) != 0 || e != want {
+		s.t.Fatalf("Read(%d, %d, %d) = %+v, %x, %d, want the error %d alone", cid, id, most, got, sent, e, want)
+	}
+	if after, _ := s.Look(cid); after != before {
+		s.t.Fatalf("Read(%d, %d, %d) made %+v of %+v", cid, id, most, after, before)
+	}
+}
+
+func (s server) closes(cid, code int, want ...api.Sent) {
+	s.t.Helper()
+	if sent, e := s.Close(cid, code); !sameSent(sent, want) || e != api.OK {
+		s.t.Fatalf("Close(%d, %d) = %x, %d, want %x", cid, code, sent, e, want)
+	} else {
+		spoilSent(sent)
+	}
+}
+
+// refusesClose sees to P1, too.
+func (s server) refusesClose(cid, code int, want api.Errno) {
+	s.t.Helper()
+	before, there := s.Look(cid)
+	if sent, e := s.Close(cid, code); len(sent) != 0 || e != want {
+		s.t.Fatalf("Close(%d, %d) = %x, %d, want the error %d alone", cid, code, sent, e, want)
+	}
+	if after, still := s.Look(cid); after != before || still != there {
+		s.t.Fatalf("Close(%d, %d) made %+v, %d of %+v, %d", cid, code, after, still, before, there)
+	}
 }

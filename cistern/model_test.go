@@ -22,14 +22,15 @@ type modelConn struct {
 	watermark        int
 	came             map[int]bool
 	ticket           int // 0: it does not wait
+	credit, limit    int
 	streams          map[int]*modelStream
 }
 
 type modelStream struct {
-	received map[int]byte
-	highest  int
-	final    int // below 0: not known
-	reset    bool
+	received              map[int]byte // and not read yet
+	read, highest, credit int
+	final                 int // below 0: not known
+	reset, done           bool
 }
 
 func newModel(c api.Config) *model {
@@ -99,7 +100,7 @@ func (m *model) hello(address, size, cid int, token, frames []byte) []api.Sent {
 	if len(m.conns) >= m.c.Conns || (len(m.conns)+1)*(64+m.c.Window+32*m.c.Streams) > m.c.Memory {
 		return nil
 	}
-	c := &modelConn{cid: cid, address: address, proven: proven, got: size, heard: m.now, came: map[int]bool{}, streams: map[int]*modelStream{}}
+	c := &modelConn{cid: cid, address: address, proven: proven, got: size, heard: m.now, came: map[int]bool{}, credit: m.c.Window, limit: m.c.Streams, streams: map[int]*modelStream{}}
 	m.conns[cid] = c
 	sent := c.news(welcome(m.c, address, cid))
 	if proven {
@@ -220,36 +221,39 @@ func (m *model) frame(c *modelConn, b []byte) (code int, rest []byte, gone bool)
 	return 0, rest, false
 }
 
-func (c *modelConn) stream(id int) *modelStream {
+func (m *model) stream(c *modelConn, id int) *modelStream {
 	if c.streams[id] == nil {
-		c.streams[id] = &modelStream{received: map[int]byte{}, final: -1}
+		c.streams[id] = &modelStream{received: map[int]byte{}, credit: m.c.Piece, final: -1}
 	}
 	return c.streams[id]
 }
 
 // over tells whether the stream's highest may not be e.
-func (m *model) over(c *modelConn, id, e int) bool {
-	all := max(e, c.stream(id).highest)
+func (c *modelConn) over(id, e int) bool {
+	all := max(e, c.streams[id].highest)
 	for other, s := range c.streams {
 		if other != id {
 			all += s.highest
 		}
 	}
-	return e > m.c.Piece || all > m.c.Window
+	return e > c.streams[id].credit || all > c.credit
 }
 
 func (m *model) piece(c *modelConn, last bool, id, offset int, b []byte) int {
-	if id >= m.c.Streams {
+	if id >= c.limit {
 		return 4
 	}
-	s, e := c.stream(id), offset+len(b)
+	s, e := m.stream(c, id), offset+len(b)
 	if s.final >= 0 && (e > s.final || last && e != s.final) {
 		return 6
+	}
+	if s.done {
+		return 0
 	}
 	if last && e < s.highest {
 		return 6
 	}
-	if m.over(c, id, e) {
+	if c.over(id, e) {
 		return 3
 	}
 	for i, x := range b {
@@ -258,7 +262,7 @@ func (m *model) piece(c *modelConn, last bool, id, offset int, b []byte) int {
 		}
 	}
 	for i, x := range b {
-		if !s.reset {
+		if !s.reset && offset+i >= s.read {
 			s.received[offset+i] = x
 		}
 	}
@@ -273,22 +277,92 @@ func (m *model) piece(c *modelConn, last bool, id, offset int, b []byte) int {
 }
 
 func (m *model) reset(c *modelConn, id, e int) int {
-	if id >= m.c.Streams {
+	if id >= c.limit {
 		return 4
 	}
-	s := c.stream(id)
-	if s.final >= 0 && s.final != e || e < s.highest {
+	s := m.stream(c, id)
+	if s.final >= 0 && s.final != e {
 		return 6
 	}
-	if m.over(c, id, e) {
+	if s.done {
+		return 0
+	}
+	if e < s.highest {
+		return 6
+	}
+	if c.over(id, e) {
 		return 3
 	}
 	s.highest, s.final = e, e
-	if len(s.received) < e {
+	if len(s.received) < e-s.read {
 		s.reset = true
 		clear(s.received)
 	}
 	return 0
+}
+
+func (m *model) read(cid, id, most int) (api.Got, []api.Sent, api.Errno) {
+	c := m.conns[cid]
+	if c == nil || !c.proven {
+		return api.Got{}, nil, api.ErrNone
+	}
+	if id < 0 || id >= c.limit || most < 0 {
+		return api.Got{}, nil, api.ErrArg
+	}
+	s := m.stream(c, id)
+	var got api.Got
+	for len(got.Bytes) < most {
+		b, ok := s.received[s.read]
+		if !ok {
+			break
+		}
+		delete(s.received, s.read)
+		got.Bytes = append(got.Bytes, b)
+		s.read++
+	}
+	got.Reset = s.reset
+	got.End = !s.reset && s.read == s.final
+	before := s.done
+	s.done = got.Reset || got.End
+	return got, m.readNews(c, id, s.done && !before), api.OK
+}
+
+func (m *model) readNews(c *modelConn, id int, ended bool) []api.Sent {
+	var sent []api.Sent
+	s := c.streams[id]
+	if s.final < 0 && s.credit < s.read+m.c.Piece/2 {
+		s.credit = s.read + m.c.Piece
+		sent = append(sent, c.news(news(c.address, c.cid, numberFrame(17, id, s.credit)))...)
+	}
+	all := 0
+	for _, s := range c.streams {
+		if s.reset && s.done {
+			all += s.final
+		} else {
+			all += s.read
+		}
+	}
+	if c.credit < all+m.c.Window/2 {
+		c.credit = all + m.c.Window
+		sent = append(sent, c.news(news(c.address, c.cid, numberFrame(16, c.credit)))...)
+	}
+	if ended {
+		c.limit++
+		sent = append(sent, c.news(news(c.address, c.cid, numberFrame(18, c.limit)))...)
+	}
+	return sent
+}
+
+func (m *model) close(cid, code int) ([]api.Sent, api.Errno) {
+	c := m.conns[cid]
+	if c == nil {
+		return nil, api.ErrNone
+	}
+	if code < 0 || code > 1073741823 {
+		return nil, api.ErrArg
+	}
+	delete(m.conns, cid)
+	return c.news(closed(c.address, cid, code)), api.OK
 }
 
 func (m *model) clock(now int) api.Errno {
@@ -324,7 +398,7 @@ func (m *model) look(cid int) (api.Look, api.Errno) {
 	if c == nil {
 		return api.Look{}, api.ErrNone
 	}
-	l := api.Look{Proven: c.proven, GotBytes: c.got, SentBytes: c.sent, Credit: m.c.Window, Limit: m.c.Streams}
+	l := api.Look{Proven: c.proven, GotBytes: c.got, SentBytes: c.sent, Credit: c.credit, Limit: c.limit}
 	for _, s := range c.streams {
 		l.Buffered += len(s.received)
 	}

@@ -3,6 +3,7 @@ package conn
 
 import (
 	"cistern/api"
+	"cistern/credit"
 	"cistern/runs"
 	"cistern/stream"
 	"cistern/wire"
@@ -19,10 +20,11 @@ type Conn struct {
 	heard     int // when, last
 	watermark int
 	packets   runs.Runs[struct{}] // the packets' numbers that came, from the watermark on
-	credit    int                 // of all streams together
+	credit    credit.Credit       // of all streams together
 	limit     int                 // how many streams there may be
-	highest   int                 // of all streams together
 	streams   map[int]*stream.Stream
+	done      map[int]stream.Done // the streams that are done; they are not in streams
+	past      int                 // the final sizes of those that are done, together
 }
 
 // New makes a connection of which nothing was heard yet.
@@ -32,9 +34,10 @@ func New(config api.Config, cid int, address int, proven bool) *Conn {
 		cid:     cid,
 		address: address,
 		proven:  proven,
-		credit:  config.Window,
+		credit:  credit.New(config.Window),
 		limit:   config.Streams,
 		streams: map[int]*stream.Stream{},
+		done:    map[int]stream.Done{},
 	}
 }
 
@@ -74,29 +77,40 @@ func (c *Conn) Look() api.Look {
 		Proven:    c.proven,
 		GotBytes:  c.got,
 		SentBytes: c.sent,
-		Credit:    c.credit,
+		Credit:    c.credit.Bytes(),
 		Limit:     c.limit,
-		Buffered:  c.buffered(),
+		Buffered:  c.sum((*stream.Stream).Buffered),
 	}
 }
 
-func (c *Conn) buffered() int {
-	size := 0
+// highest is that of all streams together.
+func (c *Conn) highest() int { return c.past + c.sum((*stream.Stream).Highest) }
+
+// bytesRead is what was read of all streams together.
+func (c *Conn) bytesRead() int { return c.past + c.sum((*stream.Stream).BytesRead) }
+
+// sum adds up a size of the streams that are not done. However many are done, there are no more of these than the config's Streams.
+func (c *Conn) sum(size func(*stream.Stream) int) int {
+	sum := 0
 	for _, s := range c.streams {
-		size += s.Buffered()
+		sum += size(s)
 	}
-	return size
+	return sum
 }
 
 // Welcome sends a Welcome.
 func (c *Conn) Welcome() []api.Sent {
-	return c.send(wire.News(c.cid, api.Welcome, c.proof(), c.config.Window, c.config.Piece, c.config.Streams))
+	return c.tell(api.Welcome, c.proof(), c.config.Window, c.config.Piece, c.config.Streams)
 }
+
+// Closed sends word that the connection is gone.
+func (c *Conn) Closed(code int) []api.Sent { return c.tell(api.Closed, code) }
 
 func (c *Conn) proof() int { return wire.Proof(c.config.Key, c.address, c.cid) }
 
-// send sends news; but one who may have lied about its address gets no more than three times what came from there.
-func (c *Conn) send(news []byte) []api.Sent {
+// tell sends news; but one who may have lied about its address gets no more than three times what came from there.
+func (c *Conn) tell(kind byte, numbers ...int) []api.Sent {
+	news := wire.News(c.cid, kind, numbers...)
 	if !c.proven && c.sent+len(news) > 3*c.got {
 		return nil
 	}

@@ -14,14 +14,14 @@ frames:
 		b = b[size:]
 		switch {
 		case wire.IsNone(err):
-			sent, gone = c.breach(api.BadFrame), true
+			sent, gone = c.Closed(api.BadFrame), true
 			break frames
 		case f.Type == api.Close:
 			gone = true
 			break frames
 		default:
 			if code := c.dealOne(f); code != 0 {
-				sent, gone = c.breach(code), true
+				sent, gone = c.Closed(code), true
 				break frames
 			}
 		}
@@ -41,10 +41,6 @@ func (c *Conn) dealOne(f wire.Frame) int {
 	}
 }
 
-func (c *Conn) breach(code int) []api.Sent {
-	return c.send(wire.News(c.cid, api.Closed, code))
-}
-
 func (c *Conn) prove(proof int) int {
 	if proof != c.proof() {
 		return api.BadProof
@@ -55,17 +51,20 @@ func (c *Conn) prove(proof int) int {
 
 // take hands a frame to its stream.
 func (c *Conn) take(f wire.Frame) int {
-	if f.Stream >= c.limit {
+	if !c.Has(f.Stream) {
 		return api.BadStream
 	}
-	s := c.stream(f.Stream)
-	before := s.Highest()
-	code := s.Take(f, c.credit-c.highest, c.config.Gaps)
-	c.highest += s.Highest() - before
-	return code
+	if d, done := c.done[f.Stream]; done {
+		return d.Take(f)
+	}
+	room := c.credit.Bytes() - c.highest()
+	return c.stream(f.Stream).Take(f, room, c.config.Gaps)
 }
 
-// stream finds a stream below the limit; one of which nothing came is made only now, so that it costs nothing till then.
+// Has tells whether there may be such a stream.
+func (c *Conn) Has(id int) bool { return 0 <= id && id < c.limit }
+
+// stream finds a stream that there may be and that is not done; it is made only now, so that it costs nothing till then.
 func (c *Conn) stream(id int) *stream.Stream {
 	s := c.streams[id]
 	if s == nil {

@@ -64,6 +64,23 @@ func (r *Runs[E]) DropLowest() int {
 	return behind
 }
 
+// Take takes away the items that lie from a place on without a gap, at most so many. The caller knows that none lies ahead of the place.
+func (r *Runs[E]) Take(first int, most int) []E {
+	if most == 0 || !r.Covers(first, first+1) {
+		return nil
+	}
+	items := r.list[0].items
+	size := min(most, len(items))
+	taken, left := slices.Clone(items[:size]), items[size:]
+	if len(left) == 0 {
+		r.list = slices.Delete(r.list, 0, 1)
+	} else {
+		// A copy, too: else the memory of what was taken would be kept.
+		r.list[0] = run[E]{first + size, slices.Clone(left)}
+	}
+	return taken
+}
+
 // touching tells which runs have no gap between them and the added one: those from the first index to ahead of the second.
 func (r *Runs[E]) touching(added run[E]) (int, int) {
 	from := 0

@@ -70,6 +70,41 @@ func TestFillAgainstAMap(t *testing.T) {
 	}
 }
 
+// Items are taken from a front that goes on; what is filled behind it is never below it.
+func TestTakeAgainstAMap(t *testing.T) {
+	random := rand.New(rand.NewPCG(5, 6))
+	for range 300 {
+		var r runs.Runs[byte]
+		want := map[int]byte{}
+		front := 0
+		for range 40 {
+			first := front + random.IntN(5)
+			items := make([]byte, min(random.IntN(4), max(0, 26-first)))
+			for i := range items {
+				items[i] = byte(5 * (first + i))
+				want[first+i] = items[i]
+			}
+			r.Fill(first, items)
+			most := random.IntN(6)
+			taken := r.Take(front, most)
+			for i, b := range taken {
+				if left, filled := want[front+i]; !filled || left != b {
+					t.Fatalf("Take(%d, %d) = %v", front, most, taken)
+				}
+				delete(want, front+i)
+			}
+			front += len(taken)
+			if _, filled := want[front]; len(taken) > most || filled && len(taken) < most {
+				t.Fatalf("Take(%d, %d) = %v, and there is more: %t", front-len(taken), most, taken, filled)
+			}
+			for i := range taken[:cap(taken)] {
+				taken[:cap(taken)][i] = 255 // it is the caller's, with its spare room
+			}
+			check(t, &r, want)
+		}
+	}
+}
+
 func TestAgreesAtEachPlace(t *testing.T) {
 	var r runs.Runs[byte]
 	r.Fill(3, []byte("abc"))

@@ -5,23 +5,27 @@ import (
 	"cmp"
 
 	"cistern/api"
+	"cistern/credit"
 	"cistern/runs"
 	"cistern/wire"
 )
 
-// Stream is what came of a stream. Its methods need no word on whether it is done: then all below its final size is read, or it was reset, and a frame that does not breach changes nothing.
+// Stream is a stream that is not done.
 type Stream struct {
 	received runs.Runs[byte] // and not read yet
 	read     int             // how much was read from its front
 	highest  int             // the greatest end of what was received; also a Reset's final size
-	credit   int
+	credit   credit.Credit
 	final    int  // the final size, if it is known
 	known    bool // whether it is
 	reset    bool
 }
 
-// New makes a stream of which nothing came.
-func New(credit int) *Stream { return &Stream{credit: credit} }
+// New makes a stream of which nothing came. Its credit goes so far beyond what was read.
+func New(ahead int) *Stream { return &Stream{credit: credit.New(ahead)} }
+
+// BytesRead tells how much was read from its front.
+func (s *Stream) BytesRead() int { return s.read }
 
 // Highest tells the greatest end that came.
 func (s *Stream) Highest() int { return s.highest }
@@ -50,17 +54,25 @@ func (s *Stream) Take(f wire.Frame, room int, gaps int) int {
 
 // checkEnd holds the frame's end against the final size and what came.
 func (s *Stream) checkEnd(f wire.Frame) int {
-	beyond := s.known && f.End > s.final
-	another := s.known && f.TellsFinal() && f.End != s.final
-	short := f.TellsFinal() && f.End < s.highest
-	if beyond || another || short {
+	if s.known {
+		return checkFinal(f, s.final)
+	}
+	if f.TellsFinal() && f.End < s.highest {
+		return api.BadFinal
+	}
+	return 0
+}
+
+// checkFinal holds the frame's end against a final size that is known; nothing that came goes beyond that.
+func checkFinal(f wire.Frame, final int) int {
+	if f.End > final || f.TellsFinal() && f.End != final {
 		return api.BadFinal
 	}
 	return 0
 }
 
 func (s *Stream) checkCredit(end int, room int) int {
-	if end > s.credit || end-s.highest > room {
+	if end > s.credit.Bytes() || end-s.highest > room {
 		return api.BadCredit
 	}
 	return 0
@@ -91,3 +103,19 @@ func (s *Stream) giveUp() {
 	s.reset = true
 	s.received = runs.Runs[byte]{}
 }
+
+// Read takes the next bytes, at most so many. With End or Reset the stream is done.
+func (s *Stream) Read(most int) api.Got {
+	if s.reset {
+		return api.Got{Reset: true}
+	}
+	b := s.received.Take(s.read, most)
+	s.read += len(b)
+	return api.Got{Bytes: b, End: s.known && s.read == s.final}
+}
+
+// Credit tells how many bytes may be sent.
+func (s *Stream) Credit() int { return s.credit.Bytes() }
+
+// RaiseCredit lets the credit follow what was read, and tells whether it is more now. A client that has told the final size needs no more.
+func (s *Stream) RaiseCredit() bool { return !s.known && s.credit.Follow(s.read) }

@@ -4,6 +4,7 @@ import (
 	"testing"
 
 	"cistern/api"
+	"cistern/credit"
 	"cistern/wire"
 )
 
@@ -13,7 +14,7 @@ func piece(kind int, offset int, text string) wire.Frame {
 
 // readUpTo is a stream of which so much was read, without a gap ahead of it.
 func readUpTo(place int) *Stream {
-	return &Stream{credit: 100, read: place, highest: place}
+	return &Stream{credit: credit.New(100), read: place, highest: place}
 }
 
 func take(t *testing.T, s *Stream, f wire.Frame, code int, buffered int) {
@@ -75,10 +76,7 @@ func TestResetBehindWhatWasRead(t *testing.T) {
 
 // A stream that is done: nothing changes, and only a wrong end is a breach.
 func TestStreamsThatAreDone(t *testing.T) {
-	for _, done := range []Stream{
-		{credit: 8, read: 8, highest: 8, final: 8, known: true},
-		{credit: 8, read: 3, highest: 8, final: 8, known: true, reset: true},
-	} {
+	for _, done := range []Done{{final: 8}, {final: 8, reset: true}} {
 		for _, x := range []struct {
 			f    wire.Frame
 			code int
@@ -96,11 +94,8 @@ func TestStreamsThatAreDone(t *testing.T) {
 			{wire.Frame{Type: api.Reset, End: 7}, api.BadFinal},
 			{wire.Frame{Type: api.Reset, End: 9}, api.BadFinal},
 		} {
-			s := done
-			code := s.Take(x.f, 0, 1)
-			unchanged := s.read == done.read && s.highest == done.highest && s.final == done.final && s.reset == done.reset && s.Buffered() == 0
-			if code != x.code || !unchanged {
-				t.Errorf("Take(%+v) of %+v = %d, want %d, and it is %+v", x.f, done, code, x.code, s)
+			if code := done.Take(x.f); code != x.code {
+				t.Errorf("Take(%+v) of %+v = %d, want %d", x.f, done, code, x.code)
 			}
 		}
 	}
@@ -115,5 +110,64 @@ func TestRoomOfAllStreams(t *testing.T) {
 	}
 	if code := readUpTo(5).Take(piece(api.Stream, 0, "abcde"), 0, 1); code != 0 {
 		t.Errorf("what came already: %d", code)
+	}
+}
+
+// reads reads from a stream that is not done.
+func reads(t *testing.T, s *Stream, most int, want string, end bool, buffered int) {
+	t.Helper()
+	got := s.Read(most)
+	if string(got.Bytes) != want || got.End != end || got.Reset || s.Buffered() != buffered {
+		t.Fatalf("Read(%d) = %+v, with %d left, want %q, %t, with %d left", most, got, s.Buffered(), want, end, buffered)
+	}
+}
+
+func TestReadUpToTheEnd(t *testing.T) {
+	s := New(100)
+	reads(t, s, 9, "", false, 0)
+	take(t, s, piece(api.Stream, 3, "def"), 0, 3)
+	reads(t, s, 9, "", false, 3)
+	take(t, s, piece(api.Stream, 0, "abc"), 0, 6)
+	reads(t, s, 0, "", false, 6)
+	reads(t, s, 2, "ab", false, 4)
+	take(t, s, piece(api.Last, 0, "??cdefgh"), 0, 6)
+	reads(t, s, 5, "cdefg", false, 1)
+	if s.BytesRead() != 7 || s.Highest() != 8 {
+		t.Errorf("%d of %d bytes were read", s.BytesRead(), s.Highest())
+	}
+	reads(t, s, 1, "h", true, 0)
+	if d := s.Done(); d != (Done{final: 8}) || d.Final() != 8 || !d.Read().End || d.Read().Reset {
+		t.Errorf("done: %+v", d)
+	}
+}
+
+func TestReadOfAReset(t *testing.T) {
+	s := New(100)
+	take(t, s, piece(api.Stream, 0, "abcdef"), 0, 6)
+	reads(t, s, 2, "ab", false, 4)
+	take(t, s, wire.Frame{Type: api.Reset, End: 9}, 0, 0)
+	if got := s.Read(9); len(got.Bytes) > 0 || got.End || !got.Reset || s.BytesRead() != 2 {
+		t.Errorf("Read(9) = %+v, behind %d bytes", got, s.BytesRead())
+	}
+	if d := s.Done(); d != (Done{final: 9, reset: true}) || d.Final() != 9 || d.Read().End || !d.Read().Reset {
+		t.Errorf("done: %+v", d)
+	}
+}
+
+func TestCreditIsRaisedUntilTheFinalSizeIsKnown(t *testing.T) {
+	s := New(8)
+	take(t, s, piece(api.Stream, 0, "abcdefgh"), 0, 8)
+	reads(t, s, 4, "abcd", false, 4)
+	if s.RaiseCredit() || s.Credit() != 8 {
+		t.Errorf("4 of 8 bytes: %d", s.Credit())
+	}
+	reads(t, s, 1, "e", false, 3)
+	if !s.RaiseCredit() || s.Credit() != 13 {
+		t.Errorf("5 of 8 bytes: %d", s.Credit())
+	}
+	take(t, s, piece(api.Last, 8, "ijklm"), 0, 8)
+	reads(t, s, 7, "fghijkl", false, 1)
+	if s.RaiseCredit() || s.Credit() != 13 {
+		t.Errorf("12 of 13 bytes: %d", s.Credit())
 	}
 }
